@@ -1,0 +1,1 @@
+"""Sumspan: nets for all sums of beginnings."""
