@@ -1,7 +1,8 @@
 """Nets run by a rule of each kind, and judged for every rule of a kind at once."""
 
+from sumspan.bounds import is_whole
 from sumspan.errors import BadKind, BadRow
-from sumspan.nets import is_whole, look_net, outs_by
+from sumspan.nets import look_net, outs_by
 
 
 def joined(one, other):

@@ -1,18 +1,14 @@
 """Nets: what one is, how deep it is, what of it is used, and what is left of it when it is pruned."""
 
+from sumspan.bounds import is_within
 from sumspan.errors import BadNet
 
 MOST_THINGS = 64
 MOST_STEPS = 500
 
 
-def is_whole(value):
-    # Python counts True and False as ints; here they are no whole numbers.
-    return isinstance(value, int) and not isinstance(value, bool)
-
-
 def is_node(value, ahead):
-    return is_whole(value) and 0 <= value < ahead
+    return is_within(value, 0, ahead - 1)
 
 
 def is_step(value, ahead):
@@ -30,7 +26,7 @@ def look_net(net):
 
 
 def look_wide(wide):
-    if not is_whole(wide) or not 1 <= wide <= MOST_THINGS:
+    if not is_within(wide, 1, MOST_THINGS):
         raise BadNet(f"a net is for 1 to {MOST_THINGS} things")
 
 
@@ -122,3 +118,8 @@ def outs_by(net, row, together):
         else:
             values.append(None)
     return [values[out] for out in net[2]]
+
+
+def add_step(wide, steps, one, other):
+    steps.append((one, other))
+    return wide + len(steps) - 1

@@ -1,6 +1,15 @@
 """Nets that several tests use."""
 
+import random
+
 KINDS = ("any", "commuting", "greatest")
+WORDS = ("line", "halves", "strides", "updown")
+LARGE = 999999999999999
+
+# Of two things: the second told ahead of the first; the first told twice; the second left out.
+TURNED = (2, [(1, 0)], [0, 2])
+TWICE = (2, [(0, 1), (0, 2)], [0, 3])
+MISSING = (2, [], [0, 0])
 
 
 def line_net(wide):
@@ -31,6 +40,52 @@ def doubled_chain(wide, thing, length):
         last = wide + len(steps) - 1
         steps.append((last, last))
     return steps
+
+
+def span_node(chance, wide, steps, low, high):
+    """A node for the things from low to high - 1 in order, put together at random, alike steps now and then."""
+    if high - low == 1:
+        return low
+    middle = chance.randrange(low + 1, high)
+    one = span_node(chance, wide, steps, low, middle)
+    other = span_node(chance, wide, steps, middle, high)
+    steps.append((one, other))
+    return wide + len(steps) - 1
+
+
+def any_step(chance, wide, steps):
+    ahead = wide + len(steps)
+    return (chance.randrange(ahead), chance.randrange(ahead))
+
+
+def mixed_net(seed, wide):
+    """Right for "any"; with steps that are not used, and steps that are alike."""
+    chance = random.Random(seed)
+    steps = []
+    outs = [0]
+    for thing in range(1, wide):
+        if chance.random() < 0.4:
+            steps.append(any_step(chance, wide, steps))
+        # A split near the end keeps the steps within bounds.
+        middle = chance.randrange(max(1, thing - 4), thing + 1)
+        rest = span_node(chance, wide, steps, middle, thing + 1)
+        steps.append((outs[middle - 1], rest))
+        outs.append(wide + len(steps) - 1)
+    return (wide, steps, outs)
+
+
+def turned_net(net):
+    """Right for "commuting" where the net is right for "any", but for "any" no more, from two things on."""
+    return (net[0], [(other, one) for one, other in net[1]], list(net[2]))
+
+
+def loose_net(seed, wide, count):
+    """A net of random steps: hardly ever right."""
+    chance = random.Random(seed)
+    steps = []
+    while len(steps) < count:
+        steps.append(any_step(chance, wide, steps))
+    return (wide, steps, [chance.randrange(wide + count) for out in range(wide)])
 
 
 # Each with the way in which it is no net.

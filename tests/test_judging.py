@@ -2,17 +2,10 @@ import copy
 import itertools
 import unittest
 
-from samples import KINDS, NO_NETS, doubled_chain, line_net, stride_net
+from samples import KINDS, LARGE, MISSING, NO_NETS, TURNED, TWICE, doubled_chain, line_net, stride_net
 from sumspan.errors import BadKind, BadNet, BadRow
 from sumspan.judging import judged, plain, run
 from sumspan.nets import depth
-
-# Of two things: the second told ahead of the first; the first told twice; the second left out.
-TURNED = (2, [(1, 0)], [0, 2])
-TWICE = (2, [(0, 1), (0, 2)], [0, 3])
-MISSING = (2, [], [0, 0])
-
-LARGE = 999999999999999
 
 
 def row_for(kind, wide):

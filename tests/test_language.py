@@ -1,6 +1,7 @@
 """The rules of LANGUAGE.md that a walk over the package's files can see."""
 
 import ast
+import builtins
 import pathlib
 import re
 import unittest
@@ -46,6 +47,40 @@ def walked(path):
     return list(ast.walk(ast.parse(path.read_text(encoding="utf-8"))))
 
 
+WALKED = set("zip enumerate reversed range items keys values".split())
+WALKERS = set("list tuple dict sorted sum any all enumerate zip min max join".split())
+
+
+def called(node):
+    if not isinstance(node, ast.Call):
+        return None
+    return node.func.id if isinstance(node.func, ast.Name) else getattr(node.func, "attr", None)
+
+
+def walked_on_the_spot(tree):
+    """The nodes that stand where a walk begins."""
+    for node in tree:
+        if isinstance(node, (ast.For, ast.comprehension)):
+            yield node.iter
+        elif called(node) in WALKERS and node.args:
+            yield node.args[0]
+
+
+def drawn_from(path):
+    for node in walked(path):
+        if isinstance(node, ast.ImportFrom):
+            for alias in node.names:
+                yield PACKAGE / (node.module.split(".")[1] + ".py"), alias.name
+
+
+def top_names(path):
+    for node in ast.parse(path.read_text(encoding="utf-8")).body:
+        if isinstance(node, (ast.FunctionDef, ast.ClassDef)):
+            yield node.name
+        elif isinstance(node, ast.Assign):
+            yield node.targets[0].id
+
+
 def names_of(tree):
     for node in tree:
         if isinstance(node, ast.Name):
@@ -85,6 +120,39 @@ class TestLanguage(unittest.TestCase):
                     self.assertEqual(node.level, 0, path)
                     self.assertRegex(node.module, r"\Asumspan\.[a-z_]+\Z")
 
+    def test_imports_are_from_the_file_that_defines_the_name(self):
+        for path in FILES:
+            for source, name in drawn_from(path):
+                self.assertIn(name, list(top_names(source)), (path, name))
+
+    def test_no_two_files_draw_from_one_another(self):
+        left = {path: {source for source, name in drawn_from(path)} for path in FILES}
+        while left:
+            free = [path for path, sources in left.items() if not sources & set(left)]
+            self.assertNotEqual(free, [], left)
+            left = {path: sources for path, sources in left.items() if path not in free}
+
+    def test_each_name_of_a_file_s_top_once(self):
+        for path in FILES:
+            tops = list(top_names(path)) + [name for source, name in drawn_from(path)]
+            self.assertEqual(len(tops), len(set(tops)), path)
+            for function in walked(path):
+                if isinstance(function, (ast.FunctionDef, ast.Lambda)):
+                    inner = [node.arg for node in ast.walk(function) if isinstance(node, ast.arg)]
+                    inner += [
+                        node.id for node in ast.walk(function)
+                        if isinstance(node, ast.Name) and isinstance(node.ctx, ast.Store)
+                    ]
+                    self.assertEqual(set(inner) & (set(tops) | set(dir(builtins))), set(), path)
+
+    def test_walked_at_once(self):
+        for path in FILES:
+            tree = walked(path)
+            good = list(walked_on_the_spot(tree))
+            for node in tree:
+                if called(node) in WALKED:
+                    self.assertTrue(any(node is other for other in good), (path, node.lineno))
+
     def test_functions_and_statements(self):
         for path in FILES:
             for node in walked(path):
@@ -113,7 +181,7 @@ class TestLanguage(unittest.TestCase):
                             self.assertIsInstance(right, ast.Constant)
 
     def test_names(self):
-        builtin_names = set(dir(__builtins__) if not isinstance(__builtins__, dict) else __builtins__)
+        builtin_names = set(dir(builtins))
         for path in FILES:
             tree = walked(path)
             for name in names_of(tree):
